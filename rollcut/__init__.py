@@ -1,0 +1,1 @@
+"""Rollcut: strips of paper, their texts, and how they are judged by a paper's rules."""
