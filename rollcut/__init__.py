@@ -1,1 +1,1 @@
-"""Rollcut: strips of paper, their texts, and how they are judged by a paper's rules."""
+"""Rollcut: strips of paper, what they sound, and how tones are cut into them by a paper's rules."""

@@ -1,4 +1,4 @@
-"""What a strip and a paper are."""
+"""What a strip, a paper and a tone are."""
 
 MOST_TRACKS = 128
 MOST_ROWS = 256
@@ -21,10 +21,19 @@ class Strip:
 
 
 class Paper:
-    """The rules that strips are judged by: G, H, B and N."""
+    """The rules that strips sound, are cut and are judged by: G, H, B and N."""
 
     def __init__(self, tail, longest, bridge, near):
         self.tail = tail
         self.longest = longest
         self.bridge = bridge
         self.near = near
+
+
+class Tone:
+    """A track that sounds in all rows from the first to the one before the end."""
+
+    def __init__(self, track, first, end):
+        self.track = track
+        self.first = first
+        self.end = end
